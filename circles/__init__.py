@@ -1,0 +1,1 @@
+"""The best for all: people in groups, and which groups are best."""
