@@ -1,15 +1,22 @@
-"""People in groups: which groups are best for all, or for who has least.
+"""People in groups: which groups are best for all, or for who has least; which, if they must be at rest, or hold.
 
 A way to be in groups is a list: of each person the number of their group.
 """
 
 REFUSED = -22
+NONE_OF_KIND = -33
 
 MOST_PEOPLE = 5
 MOST_WORTH = 20
 LAST_MEASURE = 1
+LAST_KIND = 4
 
 TOGETHER = 0
+
+WHERE_WELCOME = 1
+WHERE_LET_GO = 2
+HOLDING = 3
+HOLDING_WEAKLY = 4
 
 
 def best(n, k, worth):
@@ -18,6 +25,16 @@ def best(n, k, worth):
         return [REFUSED]
     way = first_best(n, k, worth, all_ways(n))
     return [count_groups(way)] + told_of_way(n, k, worth, way)
+
+
+def among(n, k, w, worth):
+    """Answer how many ways are of kind w, and the best by k among these."""
+    if not is_as_told(n, worth) or k > LAST_MEASURE or w > LAST_KIND:
+        return [REFUSED]
+    ways = [way for way in all_ways(n) if is_of_kind(n, w, worth, way)]
+    if len(ways) == 0:
+        return [NONE_OF_KIND]
+    return [len(ways)] + told_of_way(n, k, worth, first_best(n, k, worth, ways))
 
 
 def is_as_told(n, worth):
@@ -87,3 +104,68 @@ def told_of_way(n, k, worth, way):
     """List each person's group, what each has, and the measure."""
     has = what_each_has(n, worth, way)
     return way + has + [measure(k, has)]
+
+
+def is_of_kind(n, w, worth, way):
+    """Tell whether groups are at rest by that way to go, or hold."""
+    if w < HOLDING:
+        return is_at_rest(n, w, worth, way)
+    return does_hold(n, w, worth, way)
+
+
+def is_at_rest(n, w, worth, way):
+    """Tell whether nobody may go anywhere, to a group or to be alone."""
+    for person in range(n):
+        for number in range(count_groups(way) + 1):
+            if may_go(n, w, worth, person, members_of(way, way[person]), members_of(way, number)):
+                return False
+    return True
+
+
+def may_go(n, w, worth, person, left, joined):
+    """Tell whether a person may go from those left to those joined."""
+    # Staying needs no case of its own: nobody has more where they are than where they are.
+    if has_with(n, worth, person, joined) <= has_with(n, worth, person, left):
+        return False
+    if w >= WHERE_WELCOME and not is_welcome(n, worth, person, joined):
+        return False
+    return w < WHERE_LET_GO or is_let_go(n, worth, person, left)
+
+
+def is_welcome(n, worth, person, joined):
+    """Tell whether nobody of those joined would have less by it."""
+    return all([worth[other * n + person] >= 0 for other in joined])
+
+
+def is_let_go(n, worth, person, left):
+    """Tell whether nobody of those left would have less by it."""
+    return all([worth[other * n + person] <= 0 for other in left if other != person])
+
+
+def does_hold(n, w, worth, way):
+    """Tell whether no set of people would leave, by kind w not even weakly."""
+    has = what_each_has(n, worth, way)
+    for members in all_sets(n):
+        if would_leave(w, gains(n, worth, has, members)):
+            return False
+    return True
+
+
+def all_sets(n):
+    """Give all sets of people but the one of nobody, in which nobody could leave."""
+    sets = [[]]
+    for person in range(n):
+        sets = sets + [members + [person] for members in sets]
+    return sets[1:]
+
+
+def gains(n, worth, has, members):
+    """List how much more each of these members would have in a group of just these."""
+    return [has_with(n, worth, person, members) - has[person] for person in members]
+
+
+def would_leave(w, gained):
+    """Tell whether a set that gains so would leave, or by kind w leave weakly."""
+    if w == HOLDING_WEAKLY:
+        return min(gained) >= 0 and max(gained) > 0
+    return min(gained) > 0

@@ -46,7 +46,8 @@ def check_quiet(case, call, *handed):
 
 def wrong_people():
     """Pairs of n and worth that aren't as told."""
-    pairs = [(0, []), (0, [0]), (6, [0] * 27), (6, []), (2 ** 32 - 1, []), (2 ** 32 - 1, [0]), (2 ** 31, [0] * 27)]
+    pairs = [(0, []), (0, [0]), (6, [0] * 27), (6, [0] * 36), (6, []), (2 ** 32 - 1, []), (2 ** 32 - 1, [0]),
+             (2 ** 31, [0] * 27)]
     for n in range(1, 6):
         pairs += [(n, []), (n, [0] * (n * n - 1)), (n, [0] * (n * n + 1)), (n, [0] * 27)]
         pairs += [(n, [0] * place + [value] + [0] * (n * n - place - 1))

@@ -39,3 +39,39 @@ def pick(n, k, worth, these):
 def best(n, k, worth):
     way, told = pick(n, k, worth, ways(n))
     return [len(set(way))] + told
+
+
+def moved(way, person, number):
+    """The groups after a person went to the group of that number."""
+    return way[:person] + (number,) + way[person + 1:]
+
+
+def may_go(n, w, worth, way, person, number):
+    before, after = each_has(n, worth, way), each_has(n, worth, moved(way, person, number))
+    rather = after[person] > before[person]
+    welcome = all(after[i] >= before[i] for i in range(n) if i != person and way[i] == number)
+    let_go = all(after[i] >= before[i] for i in range(n) if i != person and way[i] == way[person])
+    return (rather, rather and welcome, rather and welcome and let_go)[w]
+
+
+def leaves(n, worth, way, group, weakly):
+    before = each_has(n, worth, way)
+    after = {i: value(n, worth, i, group) for i in group}
+    if weakly:
+        return not any(after[i] < before[i] for i in group) and any(after[i] > before[i] for i in group)
+    return all(after[i] > before[i] for i in group)
+
+
+def is_of_kind(n, w, worth, way):
+    if w <= 2:
+        return not any(may_go(n, w, worth, way, i, number) for i in range(n) for number in range(n + 1)
+                       if number != way[i])
+    groups = [frozenset(i for i in range(n) if told >> i & 1) for told in range(1, 2 ** n)]
+    return not any(leaves(n, worth, way, group, w == 4) for group in groups)
+
+
+def among(n, k, w, worth):
+    these = [way for way in ways(n) if is_of_kind(n, w, worth, way)]
+    if not these:
+        return [-33]
+    return [len(these)] + pick(n, k, worth, these)[1]
