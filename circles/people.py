@@ -1,10 +1,12 @@
-"""People in groups: which groups are best for all, or for who has least; which, if they must be at rest, or hold.
+"""People in groups: which groups are best for all, or for who has least; which, if they must be at rest, or hold;
+which are beaten by others that are better for somebody and worse for nobody.
 
 A way to be in groups is a list: of each person the number of their group.
 """
 
 REFUSED = -22
 NONE_OF_KIND = -33
+BEATEN_BY_NOTHING = -33
 
 MOST_PEOPLE = 5
 MOST_WORTH = 20
@@ -37,11 +39,28 @@ def among(n, k, w, worth):
     return [len(ways)] + told_of_way(n, k, worth, first_best(n, k, worth, ways))
 
 
+def beaten(n, worth, groups):
+    """Answer the first of all ways by which these groups are beaten."""
+    if not is_as_told(n, worth) or not is_group_of_each(n, groups):
+        return [REFUSED]
+    # How groups are numbered doesn't matter here: what each has is the same.
+    has = what_each_has(n, worth, groups)
+    ways = [way for way in all_ways(n) if does_beat(what_each_has(n, worth, way), has)]
+    if len(ways) == 0:
+        return [BEATEN_BY_NOTHING]
+    return [count_groups(ways[0])] + ways[0] + what_each_has(n, worth, ways[0])
+
+
 def is_as_told(n, worth):
     """Tell whether there are as many people as may be, and all their worths are told."""
     if n < 1 or n > MOST_PEOPLE or len(worth) != n * n:
         return False
     return all([abs(value) <= MOST_WORTH for value in worth])
+
+
+def is_group_of_each(n, groups):
+    """Tell whether groups tells a number below n for each person."""
+    return len(groups) == n and all([number < n for number in groups])
 
 
 def all_ways(n):
@@ -167,5 +186,15 @@ def gains(n, worth, has, members):
 def would_leave(w, gained):
     """Tell whether a set that gains so would leave, or by kind w leave weakly."""
     if w == HOLDING_WEAKLY:
-        return min(gained) >= 0 and max(gained) > 0
+        return is_better(gained)
     return min(gained) > 0
+
+
+def is_better(gained):
+    """Tell whether, where so much more is had, nobody has less and somebody more."""
+    return min(gained) >= 0 and max(gained) > 0
+
+
+def does_beat(has, other):
+    """Tell whether groups in which each has so much beat others in which each has so much."""
+    return is_better([has[person] - other[person] for person in range(len(has))])

@@ -16,19 +16,20 @@ class Untouched(list):
     append = extend = insert = pop = remove = clear = sort = reverse = refuse
 
 
-def check_call(case, call, numbers, worth):
-    """Call twice with a list that can't be changed; give back the answer."""
-    given = list(worth)
-    first = call(*numbers, Untouched(given))
-    case.assertEqual(list(worth), given)
+def check_call(case, call, numbers, *lists):
+    """Call with lists that can't be changed, then once more with plain ones; give back the answer."""
+    given = [list(one) for one in lists]
+    locked = [Untouched(one) for one in given]
+    first = call(*numbers, *locked)
+    case.assertEqual([list(one) for one in locked], given)
     case.assertIs(type(first), list)
     for number in first:
         case.assertIs(type(number), int)
     kept = list(first)
     first.append(99)
     first[0] = 77
-    case.assertEqual(call(*numbers, given), kept)
-    case.assertEqual(given, list(worth))
+    case.assertEqual(call(*numbers, *given), kept)
+    case.assertEqual(given, [list(one) for one in lists])
     return kept
 
 
@@ -54,3 +55,13 @@ def wrong_people():
                   for place in range(n * n) for value in (-21, 21, -2 ** 31, 2 ** 31 - 1)]
     pairs += [(1, [0, 0, 0, 0]), (2, [0] * 9), (3, [0] * 4), (4, [0] * 25), (5, [0] * 16)]
     return pairs
+
+
+def wrong_groups(n):
+    """Groups that don't tell a number below n for each of n people."""
+    these = [[0] * many for many in range(8) if many != n]
+    these += [[0] * place + [number] + [0] * (n - place - 1)
+              for place in range(n) for number in (n, n + 1, 2 ** 31, 2 ** 32 - 1)]
+    # Numbered from 1, not from 0; and a number that is too large behind or ahead of where a list may end.
+    these += [list(range(1, n + 1)), [0] * n + [n], [n] * (n - 1), [2 ** 32 - 1] * 7]
+    return these

@@ -75,3 +75,15 @@ def among(n, k, w, worth):
     if not these:
         return [-33]
     return [len(these)] + pick(n, k, worth, these)[1]
+
+
+def is_beaten_by(has, other):
+    return not any(b < a for a, b in zip(has, other)) and any(b > a for a, b in zip(has, other))
+
+
+def beaten(n, worth, groups):
+    has = each_has(n, worth, renumbered(groups))
+    these = [way for way in ways(n) if is_beaten_by(has, each_has(n, worth, way))]
+    if not these:
+        return [-33]
+    return [len(set(min(these)))] + list(min(these)) + each_has(n, worth, min(these))

@@ -4,15 +4,9 @@ import unittest
 import handed
 import plainly
 from circles.people import among, best
+from examples import RING
 
 KINDS = range(5)
-
-# Each of five in a ring likes the next one most and the one before them a little, and nobody else.
-RING = [0, 2, -20, -20, 1,
-        1, 0, 2, -20, -20,
-        -20, 1, 0, 2, -20,
-        -20, -20, 1, 0, 2,
-        2, -20, -20, 1, 0]
 
 
 class AmongCase(unittest.TestCase):
