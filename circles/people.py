@@ -51,6 +51,17 @@ def beaten(n, worth, groups):
     return [count_groups(ways[0])] + ways[0] + what_each_has(n, worth, ways[0])
 
 
+def unbeaten(n, worth):
+    """Answer how many of all ways are beaten by nothing, and the first of these."""
+    if not is_as_told(n, worth):
+        return [REFUSED]
+    ways = all_ways(n)
+    had = [what_each_has(n, worth, way) for way in ways]
+    # There is always one: what has most all together is beaten by nothing.
+    kept = [way for way in ways if not is_beaten(what_each_has(n, worth, way), had)]
+    return [len(kept)] + kept[0]
+
+
 def is_as_told(n, worth):
     """Tell whether there are as many people as may be, and all their worths are told."""
     if n < 1 or n > MOST_PEOPLE or len(worth) != n * n:
@@ -198,3 +209,8 @@ def is_better(gained):
 def does_beat(has, other):
     """Tell whether groups in which each has so much beat others in which each has so much."""
     return is_better([has[person] - other[person] for person in range(len(has))])
+
+
+def is_beaten(has, had):
+    """Tell whether groups in which each has so much are beaten by one of those in which it is had so."""
+    return any([does_beat(other, has) for other in had])

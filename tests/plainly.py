@@ -87,3 +87,9 @@ def beaten(n, worth, groups):
     if not these:
         return [-33]
     return [len(set(min(these)))] + list(min(these)) + each_has(n, worth, min(these))
+
+
+def unbeaten(n, worth):
+    had = {way: each_has(n, worth, way) for way in ways(n)}
+    these = [way for way in had if not any(is_beaten_by(had[way], had[other]) for other in had)]
+    return [len(these)] + list(min(these))
