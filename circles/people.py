@@ -1,5 +1,5 @@
 """People in groups: which groups are best for all, or for who has least; which, if they must be at rest, or hold;
-which are beaten by others that are better for somebody and worse for nobody.
+which are beaten by others that are better for somebody and worse for nobody; who envies whom.
 
 A way to be in groups is a list: of each person the number of their group.
 """
@@ -60,6 +60,21 @@ def unbeaten(n, worth):
     # There is always one: what has most all together is beaten by nothing.
     kept = [way for way in ways if not is_beaten(what_each_has(n, worth, way), had)]
     return [len(kept)] + kept[0]
+
+
+def envies(n, worth, groups):
+    """Answer how many twos of people there are of whom the first envies the second, and both of each."""
+    if not is_as_told(n, worth) or not is_group_of_each(n, groups):
+        return [REFUSED]
+    # How groups are numbered doesn't matter here either: only people are answered.
+    many = 0
+    twos = []
+    for person in range(n):
+        envied = those_envied(n, worth, groups, person)
+        many += len(envied)
+        for other in envied:
+            twos.extend([person, other])
+    return [many] + twos
 
 
 def is_as_told(n, worth):
@@ -214,3 +229,17 @@ def does_beat(has, other):
 def is_beaten(has, had):
     """Tell whether groups in which each has so much are beaten by one of those in which it is had so."""
     return any([does_beat(other, has) for other in had])
+
+
+def those_envied(n, worth, groups, person):
+    """List those whom a person envies."""
+    return [other for other in range(n) if does_envy(n, worth, groups, person, other)]
+
+
+def does_envy(n, worth, groups, person, other):
+    """Tell whether a person would have more in the other one's group without that one."""
+    # Nobody envies one of their own group, though they may have more without that one.
+    if groups[person] == groups[other]:
+        return False
+    left = [member for member in members_of(groups, groups[other]) if member != other]
+    return has_with(n, worth, person, left) > has_with(n, worth, person, members_of(groups, groups[person]))

@@ -93,3 +93,17 @@ def unbeaten(n, worth):
     had = {way: each_has(n, worth, way) for way in ways(n)}
     these = [way for way in had if not any(is_beaten_by(had[way], had[other]) for other in had)]
     return [len(these)] + list(min(these))
+
+
+def envies(n, worth, groups):
+    """Who would have more in another one's place, all others staying where they are."""
+    way = renumbered(groups)
+    has = each_has(n, worth, way)
+    twos = []
+    for one, other in itertools.permutations(range(n), 2):
+        if way[one] != way[other]:
+            # The other one is out of the way, in a group that nobody else is in.
+            swapped = moved(moved(way, other, n), one, way[other])
+            if each_has(n, worth, swapped)[one] > has[one]:
+                twos.append((one, other))
+    return [len(twos)] + [person for two in sorted(twos) for person in two]
