@@ -1,5 +1,5 @@
-"""People in groups: which groups are best for all, or for who has least; which, if they must be at rest, or hold;
-which are beaten by others that are better for somebody and worse for nobody; who envies whom.
+"""People in groups: which groups are best for all, or for who has least; which, and what's lost, if they must be at
+rest, or hold; which are beaten by others that are better for somebody and worse for nobody; who envies whom.
 
 A way to be in groups is a list: of each person the number of their group.
 """
@@ -33,7 +33,7 @@ def among(n, k, w, worth):
     """Answer how many ways are of kind w, and the best by k among these."""
     if not is_as_told(n, worth) or k > LAST_MEASURE or w > LAST_KIND:
         return [REFUSED]
-    ways = [way for way in all_ways(n) if is_of_kind(n, w, worth, way)]
+    ways = ways_of_kind(n, w, worth)
     if len(ways) == 0:
         return [NONE_OF_KIND]
     return [len(ways)] + told_of_way(n, k, worth, first_best(n, k, worth, ways))
@@ -75,6 +75,16 @@ def envies(n, worth, groups):
         for other in envied:
             twos.extend([person, other])
     return [many] + twos
+
+
+def price(n, w, worth):
+    """Answer how many ways are of kind w, and what all have together at best, and at best and at worst in these."""
+    if not is_as_told(n, worth) or w > LAST_KIND:
+        return [REFUSED]
+    had = had_together(n, worth, ways_of_kind(n, w, worth))
+    if len(had) == 0:
+        return [NONE_OF_KIND]
+    return [len(had), max(had_together(n, worth, all_ways(n))), max(had), min(had)]
 
 
 def is_as_told(n, worth):
@@ -149,6 +159,16 @@ def told_of_way(n, k, worth, way):
     """List each person's group, what each has, and the measure."""
     has = what_each_has(n, worth, way)
     return way + has + [measure(k, has)]
+
+
+def had_together(n, worth, ways):
+    """List what all have together in each of these ways."""
+    return [measure(TOGETHER, what_each_has(n, worth, way)) for way in ways]
+
+
+def ways_of_kind(n, w, worth):
+    """List the ways of kind w, in their order."""
+    return [way for way in all_ways(n) if is_of_kind(n, w, worth, way)]
 
 
 def is_of_kind(n, w, worth, way):

@@ -107,3 +107,11 @@ def envies(n, worth, groups):
             if each_has(n, worth, swapped)[one] > has[one]:
                 twos.append((one, other))
     return [len(twos)] + [person for two in sorted(twos) for person in two]
+
+
+def price(n, w, worth):
+    had = {way: sum(each_has(n, worth, way)) for way in ways(n)}
+    these = sorted(had[way] for way in had if is_of_kind(n, w, worth, way))
+    if not these:
+        return [-33]
+    return [len(these), max(had.values()), these[-1], these[0]]
